@@ -12,6 +12,11 @@ def is_whole(value):
     return isinstance(value, int) and not isinstance(value, bool)
 
 
+def is_positive(value):
+    """Whether a value is an integer of at least 1."""
+    return is_whole(value) and value >= 1
+
+
 def is_list(value):
     """Whether a value is a list or a tuple, which does as well as one."""
     return isinstance(value, (list, tuple))

@@ -1,6 +1,8 @@
 """What the tests share: a test case that looks at errors closely, and values that fit nowhere."""
 
+import contextlib
 import itertools
+import signal
 import unittest
 
 BIG = 10 ** 30 - 1
@@ -29,3 +31,17 @@ class Case(unittest.TestCase):
         """Two values are equal, and of the same kinds down to their last items."""
         self.assertEqual(found, expected)
         self.assertEqual(repr(found), repr(expected))
+
+    @contextlib.contextmanager
+    def ends_within(self, seconds):
+        """The block fails, instead of going on, if it has not ended after so many seconds."""
+        def stop(number, frame):
+            raise AssertionError(f"not ended after {seconds} seconds")
+
+        before = signal.signal(signal.SIGALRM, stop)
+        signal.setitimer(signal.ITIMER_REAL, seconds)
+        try:
+            yield
+        finally:
+            signal.setitimer(signal.ITIMER_REAL, 0)
+            signal.signal(signal.SIGALRM, before)

@@ -5,7 +5,11 @@ import unittest
 
 import everyhint.errors
 import everyhint.games
+import everyhint.goals
+import everyhint.heeding
 import everyhint.hints
+import everyhint.possible
+import everyhint.programs
 import everyhint.ratios
 
 FOLDER = pathlib.Path(everyhint.errors.__file__).parent
@@ -23,6 +27,23 @@ FUNCTIONS = {
         "Hint": "(shape, weights)", "support": "(hint)", "told": "(hint, player)", "known": "(hint, player, move)",
         "sure": "(shape, cell)", "product": "(mixes)", "blended": "(hints, shares)", "mean": "(hint, numbers)",
         "means": "(game, hint)", "followed": "(hint, player, plan)",
+    },
+    "heeding": {
+        "gain": "(game, hint, player, told, other)", "gains": "(game, hint)", "heeds": "(game, hint, player)",
+        "is_heeded": "(game, hint)", "tempting": "(game, hint)", "plan_gain": "(game, hint, player, plan)",
+        "best_plan": "(game, hint, player)", "temptation": "(game, hint, player)",
+    },
+    "programs": {"greatest": "(rows, goal)", "is_answer": "(rows, goal, answer)"},
+    "possible": {
+        "hint_for": "(game, cell)", "book_against": "(game, cell)", "possible_cells": "(game)", "wide_hint": "(game)",
+        "wide_book": "(game)", "balance": "(game, book, cell)", "is_closed": "(game, book)",
+        "barred_by": "(game, book)", "strict_hint": "(game, bet)", "book_with": "(game, bet)",
+        "possible_moves": "(game)",
+    },
+    "goals": {
+        "greatest_mean": "(game, goal)", "best_hint": "(game, goal)", "book_for": "(game, goal)",
+        "shows_greatest": "(game, goal, value, hint, scale, book)", "payoff_goal": "(game, shares)",
+        "payoff_range": "(game, player)", "chance_range": "(game, cell)",
     },
 }
 METHODS = {
