@@ -8,10 +8,15 @@ from everyhint.shapes import is_positive
 
 def check_book(game, book):
     """Raise BadBook unless a value is a book for a game."""
-    if not isinstance(book, dict):
+    if not is_book(game, book):
         raise BadBook()
-    if not all([is_bet(game, bet) and is_positive(amount) for bet, amount in book.items()]):
-        raise BadBook()
+
+
+def is_book(game, value):
+    """Whether a value is a book for a game."""
+    if not isinstance(value, dict):
+        return False
+    return all([is_bet(game, bet) and is_positive(amount) for bet, amount in value.items()])
 
 
 def book_balance(game, book, cell):

@@ -1,18 +1,15 @@
 """Games: the payoffs of one to three players in all cells of a shape, and their bets."""
 
 from everyhint.errors import BadBook, BadMoves, BadPayoffs, BadRows, BadShape, Mismatch
-from everyhint.shapes import MOST_MOVES, check_cell, count_cells, is_cell, is_list, is_move
-from everyhint.shapes import is_player, is_row, is_shape, is_whole, place, swapped
+from everyhint.shapes import MOST_MOVES, check_cell, combinations_below, count_cells, is_cell, is_list
+from everyhint.shapes import is_move, is_player, is_row, is_shape, is_whole, place, swapped
 
 
 def cells(shape):
     """The list of all cells of a shape in ascending order."""
     if not is_shape(shape):
         raise BadShape()
-    found = [()]
-    for many in shape:
-        found = [start + (move,) for start in found for move in range(many)]
-    return found
+    return combinations_below(shape)
 
 
 class Game:
@@ -107,20 +104,28 @@ def is_pair(item):
 
 def kept(game, moves):
     """The game in which each player has just some of the moves, in a given order."""
-    if not is_list(moves) or len(moves) != game.players:
+    if not is_lists(moves, game.players):
         raise Mismatch()
-    if not all([is_list(chosen) for chosen in moves]):
-        raise Mismatch()
-    for player, chosen in enumerate(moves):
-        if not is_choice(game, player, chosen):
-            raise BadMoves(player)
+    check_choices(game.shape, moves)
     shape = [len(chosen) for chosen in moves]
     return Game(shape, [list(game[original(moves, cell)]) for cell in cells(shape)])
 
 
-def is_choice(game, player, chosen):
+def is_lists(value, many):
+    """Whether a value is a list of so many lists."""
+    return is_list(value) and len(value) == many and all([is_list(each) for each in value])
+
+
+def check_choices(shape, moves):
+    """Raise BadMoves unless each player's list has one or more of their moves, none of them twice."""
+    for player, chosen in enumerate(moves):
+        if not is_choice(shape, player, chosen):
+            raise BadMoves(player)
+
+
+def is_choice(shape, player, chosen):
     """Whether a list has one or more moves of a player, none of them twice."""
-    if not chosen or not all([is_move(game.shape, player, move) for move in chosen]):
+    if not chosen or not all([is_move(shape, player, move) for move in chosen]):
         return False
     return len(set(chosen)) == len(chosen)
 

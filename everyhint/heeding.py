@@ -20,9 +20,9 @@ def gain(game, hint, player, told, other):
     return bet_gain(game, hint, (player, told, other))
 
 
-def check_same(game, hint):
-    """Raise Mismatch unless a game and a hint have the same shape."""
-    if game.shape != hint.shape:
+def check_same(one, other):
+    """Raise Mismatch unless two games, or a game and a hint or a log, have the same shape."""
+    if one.shape != other.shape:
         raise Mismatch()
 
 

@@ -104,9 +104,9 @@ def endless_amounts(table, column, rows):
     return lowest(numbers_of(unknowns, factors, 0, rows))
 
 
-def numbers_of(unknowns, numbers, first, many):
-    """The numbers of so many unknowns, from the first one on; 0 for those that have none."""
-    found = dict(zip(unknowns, numbers))
+def numbers_of(owners, numbers, first, many):
+    """The numbers of so many owners (unknowns, moves), from the first one on; 0 for those that have none."""
+    found = dict(zip(owners, numbers))
     return [found.get(first + index, 0) for index in range(many)]
 
 

@@ -3,10 +3,18 @@
 from math import gcd
 
 from everyhint.errors import BadRatio, BadText
+from everyhint.shapes import is_row
 
 LONGEST_TEXT = 60
 CHUNK_DIGITS = 60
 CHUNK = 10 ** 60
+
+
+def is_ratio(value):
+    """Whether a value is a ratio, in lowest terms."""
+    if not isinstance(value, tuple) or not is_row(value, 2):
+        return False
+    return value[1] >= 1 and gcd(value[0], value[1]) == 1
 
 
 def ratio(top, bottom=1):

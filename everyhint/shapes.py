@@ -51,6 +51,14 @@ def count_cells(shape):
     return found
 
 
+def combinations_below(counts):
+    """The ascending list of the tuples with a number from 0 on below each of some counts."""
+    found = [()]
+    for many in counts:
+        found = [start + (number,) for start in found for number in range(many)]
+    return found
+
+
 def is_player(shape, value):
     """Whether a value is the number of a player of a shape."""
     return is_whole(value) and 0 <= value < len(shape)
