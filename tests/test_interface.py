@@ -3,14 +3,22 @@ import inspect
 import pathlib
 import unittest
 
+import everyhint.bench
+import everyhint.compared
 import everyhint.errors
+import everyhint.fewer
 import everyhint.games
 import everyhint.goals
 import everyhint.heeding
 import everyhint.hints
+import everyhint.logs
+import everyhint.notation
+import everyhint.opposed
+import everyhint.polygon
 import everyhint.possible
 import everyhint.programs
 import everyhint.ratios
+import everyhint.struck
 
 FOLDER = pathlib.Path(everyhint.errors.__file__).parent
 
@@ -45,11 +53,52 @@ FUNCTIONS = {
         "shows_greatest": "(game, goal, value, hint, scale, book)", "payoff_goal": "(game, shares)",
         "payoff_range": "(game, player)", "chance_range": "(game, cell)",
     },
+    "struck": {
+        "others": "(shape, player)", "belief_for": "(game, player, move)", "mixture_above": "(game, player, move)",
+        "is_belief": "(game, player, move, belief)", "is_above": "(game, player, move, mix)", "strikes": "(game)",
+        "left": "(game)", "left_after": "(game, steps)", "are_strikes": "(game, steps)",
+        "widened": "(hint, moves, shape)",
+    },
+    "compared": {
+        "implies": "(one, other)", "hint_between": "(one, other)", "multipliers": "(one, other)",
+        "shows_implied": "(one, other, paper)", "same_hints": "(one, other)", "groups_same": "(games)",
+    },
+    "opposed": {
+        "worth": "(game)", "safe_mixes": "(game)", "is_safe": "(game, player, mix)", "moves_in_use": "(game, player)",
+    },
+    "polygon": {
+        "payoff_corners": "(game)", "corner_hints": "(game)", "hint_at": "(game, point)", "fence": "(game, point)",
+        "is_fence": "(game, point, told)",
+    },
+    "fewer": {
+        "groups": "(game, book)", "reduced": "(game, book)", "lifted": "(game, book, hint)", "full_book": "(game)",
+        "is_elementary": "(game)", "ladder": "(game)", "climbed": "(game, hint)",
+    },
+    "logs": {
+        "Log": "(shape)", "regret": "(log, game, player, told, other)", "fixed_regret": "(log, game, player, move)",
+        "no_regrets": "(log, game)", "takes": "(game, hint, player)", "is_taken": "(game, hint)",
+        "greatest_taken": "(game, goal)", "best_taken": "(game, goal)", "offers": "(game, goal)",
+        "shows_offers": "(game, goal, value, told)",
+    },
+    "bench": {"Bench": "()"},
+    "notation": {
+        "text_of": "(thing)", "book_text": "(book)", "read_game": "(text)", "read_hint": "(text)",
+        "read_book": "(text)", "read_bench": "(text)", "report": "(game)",
+    },
 }
+# The operators of a class, and the parameters of its methods.
 METHODS = {
-    "Game": ["__len__", "__getitem__", "__iter__", "__contains__", "__eq__", "payoffs", "__add__", "__neg__",
-             "__mul__"],
-    "Hint": ["weights", "__getitem__", "__eq__"],
+    "Game": {"__len__": "(self)", "__getitem__": "(self, at)", "__iter__": "(self)", "__contains__": "(self, x)",
+             "__eq__": "(self, other)", "payoffs": "(self)", "__add__": "(self, other)", "__neg__": "(self)",
+             "__mul__": "(self, other)"},
+    "Hint": {"weights": "(self)", "__getitem__": "(self, at)", "__eq__": "(self, other)"},
+    "Log": {"__len__": "(self)", "plays": "(self)", "play": "(self, cell)", "hint": "(self)",
+            "behind": "(self, count)"},
+    "Bench": {"put": "(self, name, game)", "join": "(self, new, one, other)", "scale": "(self, name, factor)",
+              "keep": "(self, name, moves)", "strike": "(self, name)", "rename": "(self, name, new)",
+              "drop": "(self, name)", "undo": "(self)", "redo": "(self)", "__getitem__": "(self, at)",
+              "__contains__": "(self, x)", "__len__": "(self)", "names": "(self)", "possible": "(self, name)",
+              "same": "(self, one, other)", "groups": "(self)", "trial": "(self)", "tried": "(self, names, deed)"},
 }
 
 
@@ -67,12 +116,21 @@ class InterfaceTest(unittest.TestCase):
                 self.assertIn(name, defined(file))
                 self.assertEqual(str(inspect.signature(getattr(module, name))), parameters, name)
 
-    def test_methods_are_defined_in_the_class_itself(self):
+    def test_methods_are_defined_in_the_class_itself_with_the_parameters_of_the_interface(self):
         for file, listed in FUNCTIONS.items():
             for name in METHODS:
                 if name in listed:
                     body = [node.name for node in defined(file)[name].body if isinstance(node, ast.FunctionDef)]
                     self.assertEqual(sorted(set(METHODS[name]) - set(body)), [])
+                    for method, parameters in METHODS[name].items():
+                        found = getattr(getattr(getattr(everyhint, file), name), method)
+                        self.assertEqual(str(inspect.signature(found)), parameters, method)
+
+    def test_undos_and_redos_are_properties_of_the_class_itself(self):
+        body = [node.name for node in defined("bench")["Bench"].body if isinstance(node, ast.FunctionDef)]
+        for name in ["undos", "redos"]:
+            self.assertIn(name, body)
+            self.assertIsInstance(vars(everyhint.bench.Bench)[name], property)
 
     def test_error_classes_are_defined_in_errors(self):
         classes = [name for name, node in defined("errors").items() if isinstance(node, ast.ClassDef)]

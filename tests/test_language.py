@@ -12,7 +12,7 @@ FOLDER = pathlib.Path(everyhint.__file__).parent
 FILES = sorted(path for path in FOLDER.rglob("*") if "__pycache__" not in path.parts)
 CALLED = ["len", "range", "enumerate", "zip", "min", "max", "sum", "abs", "sorted", "reversed", "int", "str", "bool",
           "list", "tuple", "dict", "set", "isinstance", "ord", "repr", "any", "all", "divmod", "iter", "next",
-          "ValueError", "TypeError", "KeyError", "NotImplemented"]
+          "property", "ValueError", "TypeError", "KeyError", "NotImplemented"]
 TAKE_LISTS = ["any", "all", "min", "max", "sum", "sorted"]
 BARRED_NODES = (ast.Global, ast.AsyncFunctionDef, ast.Await, ast.Div, ast.Import)
 BARRED_WORDS = ["type", "typing", "enum", "Enum", "Generic", "Protocol", "ABC", "namedtuple", "_wall", "Meta"]
@@ -54,11 +54,14 @@ class LanguageTest(unittest.TestCase):
             for line in lines:
                 self.assertLessEqual(len(line), 120, path.name)
 
-    def test_functions_are_short_and_have_no_decorators(self):
+    def test_functions_are_short_and_have_no_decorators_but_property(self):
         for name, node in nodes():
             if isinstance(node, ast.FunctionDef):
                 self.assertLessEqual(node.end_lineno - node.lineno + 1, 40, (name, node.name))
-                self.assertEqual(node.decorator_list, [], (name, node.name))
+                if node.decorator_list:
+                    found = [ast.unparse(each) for each in node.decorator_list]
+                    parameters = [each.arg for each in node.args.args]
+                    self.assertEqual([found, parameters], [["property"], ["self"]], (name, node.name))
 
     def test_no_barred_syntax(self):
         for name, node in nodes():
