@@ -63,10 +63,10 @@ def reduced(game, book):
     """The game in which the moves of each player are the resting groups."""
     found = groups(game, book)
     rows = [means(game, hint) for hint in draws(game, found)]
+    bottoms = [each[1] for row in rows for each in row]
     unit = 1
-    for row in rows:
-        for _, bottom in row:
-            unit = lcm(unit, bottom)
+    for number in bottoms:
+        unit = lcm(unit, number)
     return Game(fewer_shape(found), [[top * (unit // bottom) for top, bottom in row] for row in rows])
 
 

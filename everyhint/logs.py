@@ -96,7 +96,6 @@ def takes(game, hint, player):
 
 def is_taken(game, hint):
     """Whether all players take a hint."""
-    check_same(game, hint)
     return all([takes(game, hint, player) for player in range(game.players)])
 
 

@@ -42,7 +42,6 @@ def safe_rows(game, player):
 
 def safe_mixes(game):
     """A tuple of a safe mix for each player, in lowest terms."""
-    check_opposed(game)
     return (safe_mix(game, 0), safe_mix(game, 1))
 
 

@@ -1,3 +1,4 @@
+import itertools
 import random
 import unittest
 from fractions import Fraction
@@ -129,9 +130,11 @@ class CornersTest(PolygonCase):
         # Each player's payoff depends on the moves of the other one alone, so all hints are heeded.
         grid = two([[(2 * column, 3 * row) for column in range(4)] for row in range(4)])
         self.same_value(payoff_corners(grid), [((0, 1), (0, 1)), ((6, 1), (0, 1)), ((6, 1), (9, 1)), ((0, 1), (9, 1))])
-        turned_grid = two([[(-column, row) for column in range(3)] for row in (2, 0, 1)])
-        self.same_value(payoff_corners(turned_grid),
-                        [((-2, 1), (0, 1)), ((0, 1), (0, 1)), ((0, 1), (2, 1)), ((-2, 1), (2, 1))])
+        # Whatever cell comes first, an end of a side or one between its ends.
+        for rows, columns in itertools.product(itertools.permutations(range(3)), repeat=2):
+            mixed = two([[(-column, row) for column in columns] for row in rows])
+            self.same_value(payoff_corners(mixed),
+                            [((-2, 1), (0, 1)), ((0, 1), (0, 1)), ((0, 1), (2, 1)), ((-2, 1), (2, 1))])
         self.check(grid)
 
     def test_opposite_payoffs_have_one_point(self):
